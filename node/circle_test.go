@@ -36,10 +36,8 @@ type pal struct {
 func newCircle(t *testing.T, change ...func(c *api.Config)) *circle {
 	t.Helper()
 	x := lonely(t, change...)
-	for _, t := range x.c.Terms {
-		if p := x.pals[t.Channel]; p != nil {
-			x.hand(api.Input{Kind: api.InUp, Peer: x.peer(p)})
-		}
+	for peer := range x.c.Nodes {
+		x.hand(api.Input{Kind: api.InUp, Peer: peer})
 	}
 	for _, p := range x.pals {
 		if !p.Ready() {

@@ -2,18 +2,9 @@ package node
 
 import (
 	"bytes"
-	"slices"
-	"strconv"
-	"strings"
 
 	"tollhouse/api"
 	"tollhouse/kv"
-)
-
-// Keys of inputs have numbers of so many digits, so that they rise with these.
-const (
-	numberDigits = 10
-	partDigits   = 2
 )
 
 // putsOf is how the input in is kept as the number-th: its bytes, in parts that are as long as values may be.
@@ -23,8 +14,10 @@ func putsOf(number int, in api.Input) ([]api.Put, bool) {
 		return nil, false
 	}
 	var puts []api.Put
-	for part := range slices.Chunk(b, api.MaxValue) {
-		puts = append(puts, api.Put{Key: keyOf(number, len(puts)), Value: part})
+	for len(b) > 0 {
+		size := min(len(b), api.MaxValue)
+		puts = append(puts, api.Put{Key: keyOf(number, len(puts)), Value: b[:size]})
+		b = b[size:]
 	}
 	return puts, true
 }
@@ -59,15 +52,13 @@ func kept(s *kv.Store) ([]api.Input, bool) {
 	return inputs, whole
 }
 
-// keyOf is the key of a part of the number-th input.
+// keyOf is the key of a part of the number-th input: the highest bytes first, so that keys rise as they are read.
 func keyOf(number, part int) string {
-	return digits(number, numberDigits) + "-" + digits(part, partDigits)
-}
-
-// digits is n with noughts ahead, so that it has so many digits.
-func digits(n, size int) string {
-	s := strconv.Itoa(n)
-	return strings.Repeat("0", max(0, size-len(s))) + s
+	var key []byte
+	for shift := 56; shift >= 0; shift -= 8 {
+		key = append(key, byte(number>>shift))
+	}
+	return string(append(key, byte(part)))
 }
 
 // decode is the input of these bytes, if they are just what one is kept as.

@@ -122,3 +122,17 @@ func TestAnswers(t *testing.T) {
 		t.Error("the node changed with what it answered", i)
 	}
 }
+
+// R3: a configuration is not kept.
+func TestConfig(t *testing.T) {
+	c := config()
+	f := disk(t, 1<<20)
+	n, _ := Open(c, f)
+	m, _ := Open(c, f.Fork())
+	c.Terms[0], c.Terms[1], c.Rules[1] = api.Terms{}, api.Terms{}, api.Rules{}
+	in := []api.Input{{Kind: api.InUp, Peer: 0}, {Kind: api.InUp, Peer: 2}, {Kind: api.InInvoice, Number: 1, Amount: 5, Expiry: 9}, {Kind: api.InClose, Number: 7}, {Kind: api.InBlock, Height: 4}}
+	wantLike(t, n, m, in)
+	if p := n.Purse(); p.Open != 1500 {
+		t.Error("Purse", p)
+	}
+}

@@ -91,7 +91,7 @@ func (s *state) do(in api.Input) api.Output {
 	s.settle()
 	s.each(s.sign)
 	out := s.out
-	s.out = api.Output{}
+	s.out, s.full = api.Output{}, nil
 	return out
 }
 
