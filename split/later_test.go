@@ -269,15 +269,15 @@ func TestNoGraph(t *testing.T) {
 	wantState(t, p, j.Secret, api.PayDone, 50, 2, 0)
 }
 
-// P23.4: Hops is what the onion tells.
+// P23.4: Hops is what the onion tells. The last hop's Amount is the try's own; of a try that nobody laid, that is not what goes into the last edge.
 func TestHops(t *testing.T) {
 	i := bill(1, api.InvoiceSet, 300)
-	x := api.Try{Part: 3, Amount: 100, Share: [32]byte{4}, Set: [32]byte{5}}
+	x := api.Try{Part: 3, Amount: 90, Share: [32]byte{4}, Set: [32]byte{5}}
 	if len(Hops(x, i)) > 0 {
 		t.Error("hops of no way")
 	}
 	x.Way = api.Way{Edges: []api.Edge{edge(6, 0, 1, 0)}, Amounts: []int{100}, Expiries: []int{20}}
-	last := api.Hop{Amount: 100, Expiry: 20, Secret: i.Secret, Total: 300, Set: [32]byte{5}, Index: 3, Share: [32]byte{4}}
+	last := api.Hop{Amount: 90, Expiry: 20, Secret: i.Secret, Total: 300, Set: [32]byte{5}, Index: 3, Share: [32]byte{4}}
 	if l := Hops(x, i); !reflect.DeepEqual(l, []api.Hop{last}) {
 		t.Error("one edge", l)
 	}
@@ -286,10 +286,22 @@ func TestHops(t *testing.T) {
 	if l := Hops(x, i); !reflect.DeepEqual(l, want) {
 		t.Error("three edges", l)
 	}
-	// A try that nobody laid.
 	x.Way.Amounts, x.Way.Expiries = x.Way.Amounts[:1], nil
-	if l := Hops(x, i); len(l) != 3 || l[1].Amount != 0 || l[1].Expiry != 0 {
+	last.Expiry = 0
+	want = []api.Hop{{Channel: 7}, {Channel: 8}, last}
+	if l := Hops(x, i); !reflect.DeepEqual(l, want) {
 		t.Error("lists that are too short", l)
+	}
+}
+
+// P23.4: of a try that was laid, both amounts are the same: what the payee is told is what it gets.
+func TestHopsOfLaid(t *testing.T) {
+	i := bill(1, api.InvoicePlain, 50)
+	for _, x := range started(t, New(payer), diamond(t, 100), i, 9) {
+		l := Hops(x, i)
+		if last := len(l) - 1; l[last].Amount != x.Way.Amounts[last] || l[last].Amount != x.Amount || l[last].Expiry != x.Way.Expiries[last] {
+			t.Error(l, x)
+		}
 	}
 }
 

@@ -66,7 +66,7 @@ func Hops(t api.Try, i api.Invoice) []api.Hop {
 	}
 	last := len(edges) - 1
 	return append(hops, api.Hop{
-		Amount: at(t.Way.Amounts, last),
+		Amount: t.Amount,
 		Expiry: at(t.Way.Expiries, last),
 		Secret: i.Secret,
 		Total:  i.Amount,
