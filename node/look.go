@@ -86,15 +86,12 @@ func (n *Node) Invoices() []api.Invoice {
 	return n.registry.List()
 }
 
-// Known is the secret of a hash, if the node has it.
+// Known is the secret of a hash, if the node was told it, or made an invoice pay with it.
 func (n *Node) Known(hash [32]byte) ([32]byte, bool) {
 	if n.closed() {
 		return [32]byte{}, false
 	}
 	secret, ok := n.told[hash]
-	if !ok {
-		secret, ok = n.made[hash]
-	}
 	return secret, ok
 }
 

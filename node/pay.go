@@ -33,9 +33,6 @@ func (s *state) invoice(in api.Input) api.Errno {
 	if e := s.registry.Add(i, in.Secret); e != api.OK {
 		return e
 	}
-	if i.Kind == api.InvoicePlain {
-		s.made[i.Hash] = in.Secret
-	}
 	s.out.Text, _ = invoice.Encode(i)
 	return api.OK
 }

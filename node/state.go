@@ -29,8 +29,7 @@ type state struct {
 	payments *split.Payments
 	circuits *circuits.Circuits
 	graph    *graph.Graph
-	told     map[[32]byte][32]byte // secrets that may be shown, by their hashes
-	made     map[[32]byte][32]byte // those of its own invoices, which may not be shown till they are told too
+	told     map[[32]byte][32]byte // secrets that may be shown, by their hashes: no invoice's is among them till it is paid
 	packets  map[api.Hook][32]byte // the keys of the packets of HTLCs that the registry holds
 	ends     map[api.Hook]end      // what is to be done with HTLCs that came
 	offers   map[api.Hook]offer    // the node's own HTLCs that are on their way
@@ -61,7 +60,6 @@ func newState(c api.Config) state {
 		circuits: circuits.New(),
 		graph:    graph.New(),
 		told:     map[[32]byte][32]byte{},
-		made:     map[[32]byte][32]byte{},
 		packets:  map[api.Hook][32]byte{},
 		ends:     map[api.Hook]end{},
 		offers:   map[api.Hook]offer{},
