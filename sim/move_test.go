@@ -464,6 +464,10 @@ func TestBytes(t *testing.T) {
 	if _, _, open := x.Node(1).Channel(1); open {
 		t.Error("not closed by the second one")
 	}
+	// More than a node takes is carried, and not kept.
+	ahead := x.inputs()
+	x.do(api.Move{Kind: api.MoveBytes, A: 0, B: 1, Bytes: make([]byte, api.MaxInput+1)}, api.Move{Kind: api.MoveCarry, A: 0, B: 1})
+	x.wantInputs(ahead, 0, 0, 0)
 	x.kill(1, 0)
 	x.want(api.Move{Kind: api.MoveBytes, A: 0, B: 1, Bytes: []byte{1}}, api.ErrMove)
 }
